@@ -1,0 +1,51 @@
+"""The desk: a list of calls on one object is handed in, the list of answers is given back."""
+
+from factsandrules.session import Session
+
+CALL_NAMES = {1: "new", 2: "relation", 3: "rule", 4: "forget", 5: "fact"}
+
+# How many whole numbers a call has, not counting its row.
+PLAIN_NUMBERS = {"new": 0, "relation": 1, "rule": 0, "forget": 1, "fact": 2}
+WITH_ROW = ("rule", "fact")
+
+
+def split_calls(calls):
+    """Each call as its name, its whole numbers and its row (empty where it has none)."""
+    split = []
+    at = 0
+    while at < len(calls):
+        name = CALL_NAMES[calls[at]]
+        row_at = at + 1 + PLAIN_NUMBERS[name]
+        numbers = calls[at + 1:row_at]
+        row = []
+        at = row_at
+        if name in WITH_ROW:
+            at = row_at + 1 + calls[row_at]
+            row = calls[row_at + 1:at]
+        split.append((name, numbers, row))
+    return split
+
+
+def answer_call(session, name, numbers, row):
+    if name == "relation":
+        return session.add_relation(numbers[0])
+    if name == "rule":
+        return session.add_rule(row)
+    if name == "forget":
+        return session.forget_rule(numbers[0])
+    return session.change_fact(numbers[0], numbers[1], row)
+
+
+def answers(calls):
+    """For each call how many numbers are answered, then these."""
+    session = Session()
+    given = []
+    for name, numbers, row in split_calls(calls):
+        if name == "new":
+            session = Session()
+            answered = [0]
+        else:
+            answered = [answer_call(session, name, numbers, row)]
+        given.append(len(answered))
+        given.extend(answered)
+    return given
