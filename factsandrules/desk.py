@@ -2,11 +2,17 @@
 
 from factsandrules.session import Session
 
-CALL_NAMES = {1: "new", 2: "relation", 3: "rule", 4: "forget", 5: "fact"}
+CALL_NAMES = {
+    1: "new", 2: "relation", 3: "rule", 4: "forget", 5: "fact",
+    6: "holds", 7: "count", 8: "next", 9: "height",
+}
 
 # How many whole numbers a call has, not counting its row.
-PLAIN_NUMBERS = {"new": 0, "relation": 1, "rule": 0, "forget": 1, "fact": 2}
-WITH_ROW = ("rule", "fact")
+PLAIN_NUMBERS = {
+    "new": 0, "relation": 1, "rule": 0, "forget": 1, "fact": 2,
+    "holds": 1, "count": 1, "next": 2, "height": 1,
+}
+WITH_ROW = ("rule", "fact", "holds", "next", "height")
 
 
 def split_calls(calls):
@@ -26,14 +32,21 @@ def split_calls(calls):
     return split
 
 
-def answer_call(session, name, numbers, row):
+def change_or_ask(session, name, numbers, row):
+    """What a call answers that answers one number alone."""
     if name == "relation":
         return session.add_relation(numbers[0])
     if name == "rule":
         return session.add_rule(row)
     if name == "forget":
         return session.forget_rule(numbers[0])
-    return session.change_fact(numbers[0], numbers[1], row)
+    if name == "fact":
+        return session.change_fact(numbers[0], numbers[1], row)
+    if name == "holds":
+        return session.tell_holds(numbers[0], row)
+    if name == "count":
+        return session.tell_count(numbers[0])
+    return session.tell_height(numbers[0], row)
 
 
 def answers(calls):
@@ -44,8 +57,10 @@ def answers(calls):
         if name == "new":
             session = Session()
             answered = [0]
+        elif name == "next":
+            answered = session.tell_following(numbers[0], numbers[1], row)
         else:
-            answered = [answer_call(session, name, numbers, row)]
+            answered = [change_or_ask(session, name, numbers, row)]
         given.append(len(answered))
         given.extend(answered)
     return given

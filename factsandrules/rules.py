@@ -10,12 +10,13 @@ HIGHEST_VALUE = 65535
 
 
 class Rule:
-    """A head, the parts that must hold, and the negated parts, which must not."""
+    """A head, the parts that must hold, and the negated parts, which must not; the plans made for it so far."""
 
     def __init__(self, head, parts, negated):
         self.head = head
         self.parts = parts
         self.negated = negated
+        self.plans = {}
 
 
 def is_value(number):
@@ -46,18 +47,20 @@ def read_rule(arities, words):
     if head is None:
         return None
     rule = Rule(head, [], [])
+    how_many = 0
     at = 1 + len(head[1])
     while at < len(words):
         # A part's number 0 stands for relation -1 here, which is never there.
         part = read_pair(arities, abs(words[at]) - 1, words, at + 1)
         if part is None:
             return None
-        if words[at] < 0:
-            rule.negated.append(part)
-        else:
-            rule.parts.append(part)
+        # A part that stands again is counted, but asks nothing more.
+        alike = rule.negated if words[at] < 0 else rule.parts
+        if part not in alike:
+            alike.append(part)
+        how_many += 1
         at += 1 + len(part[1])
-    if len(rule.parts) + len(rule.negated) > MOST_PARTS:
+    if how_many > MOST_PARTS:
         return None
     return rule
 

@@ -24,7 +24,24 @@ CALLS = [
     5, 0, 1, 4, 9, -1, -2, -3,
     5, 0, -5, 4, 9, 0, 0, 0,
     5, 0, 1, 4, -9, 0, 0, 0,
+    6, 0, 4, 9, 5, 5, 5,
+    6, 0, 4, 5, 9, 9, 9,
+    6, 1, 4, 0, 0, 0, 0,
+    6, 2, 4, 0, 0, 0, 0,
+    3, 1, 1,
+    7, 0,
+    7, -1,
+    8, 0, 1, 4, 0, 0, 0, 0,
+    8, 0, 0, 4, 8, 1, 1, 1,
+    8, 0, 0, 4, 9, 1, 1, 1,
+    8, 1, -1, 4, 3, 3, 3, 3,
+    8, 2, 1, 4, 0, 0, 0, 0,
+    9, 0, 4, 9, 0, 0, 0,
+    9, 1, 4, 0, 0, 0, 0,
+    9, 0, 4, 8, 0, 0, 0,
+    9, 0, 4, -8, 0, 0, 0,
     5, 0, 0, 4, 9, 0, 0, 0,
+    7, 0,
     1,
     4, 0,
 ]
@@ -45,6 +62,23 @@ GIVEN = [
     1, -1,
     1, 1,
     1, 0,
+    1, 0,
+    1, -1,
+    1, 0,
+    1, 1,
+    1, -1,
+    5, 1, 9, 0, 0, 0,
+    5, 1, 9, 0, 0, 0,
+    1, 0,
+    5, 1, 0, 0, 0, 0,
+    1, -1,
+    1, 0,
+    1, 1,
+    1, -6,
+    1, -1,
+    1, 1,
+    1, 0,
+    1, 0,
     1, -1,
 ]
 
@@ -60,6 +94,10 @@ class InterfaceTest(unittest.TestCase):
         calls = [1, 2, 4, 3, 5, 0, 1, 2, 3, 4, 5, 0, 5, 4, 5, 5, 5, 5, 4, 0, 4, 5]
         self.assertEqual(answers(calls), [1, 0, 1, 0, 1, 0, 1, 1, 1, 0, 1, -1])
 
+    def test_terms_of_questions_that_look_like_calls(self):
+        calls = [1, 2, 4, 6, 0, 4, 8, 0, 0, 4, 8, 0, 1, 4, 6, 7, 8, 9, 9, 0, 4, 9, 9, 9, 9, 7, 0, 6, 7, 4, 4, 4, 4, 4]
+        self.assertEqual(answers(calls), [1, 0, 1, 0, 1, 0, 1, 0, 1, -6, 1, 0, 1, -1])
+
     def test_whole_numbers_in_a_list_are_given_back(self):
         given = answers(CALLS)
         self.assertIs(type(given), list)
@@ -74,7 +112,7 @@ class InterfaceTest(unittest.TestCase):
     def test_nothing_is_kept_from_one_time_to_the_next(self):
         first = answers(CALLS)
         first.append(5)
-        answers([1, 2, 0, 3, 1, 0, 5, 0, 1, 4, 0, 0, 0, 0])
+        answers([1, 2, 0, 3, 1, 0, 5, 0, 1, 4, 0, 0, 0, 0, 7, 0, 2, 1, 3, 4, 1, 5, 1, 7, 1])
         self.assertEqual(answers(CALLS), GIVEN)
         self.assertEqual(answers(CALLS), GIVEN)
 

@@ -129,6 +129,23 @@ class LanguageTest(unittest.TestCase):
             if isinstance(node, ast.Attribute):
                 self.assertIn(node.attr, own | METHODS, where)
 
+    def test_methods_and_values(self):
+        methods = set()
+        values = set()
+        for path in package_files():
+            for node in ast.walk(ast.parse(path.read_text(encoding="utf-8"))):
+                if isinstance(node, ast.ClassDef):
+                    methods |= {part.name for part in node.body if isinstance(part, ast.FunctionDef)}
+                if isinstance(node, ast.Attribute) and isinstance(node.ctx, ast.Store):
+                    values.add(node.attr)
+        self.assertEqual(methods & values, set())
+
+    def test_comparisons(self):
+        for where, node in self.walk():
+            if isinstance(node, ast.Compare) and any(isinstance(sign, (ast.Is, ast.IsNot)) for sign in node.ops):
+                self.assertIsInstance(node.comparators[0], ast.Constant, where)
+                self.assertIn(node.comparators[0].value, (None, True, False), where)
+
 
 if __name__ == "__main__":
     unittest.main()
