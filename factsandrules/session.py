@@ -125,13 +125,10 @@ class Session:
         return self.tables[relation].heights
 
     def tell_holds(self, relation, terms):
-        values = self.read_values(relation, terms)
-        if values is None:
-            return NOT_TAKEN
-        heights = self.heights_in(relation)
-        if heights is None:
-            return TOO_MANY_HOLD
-        return 1 if values in heights else 0
+        height = self.tell_height(relation, terms)
+        if height == NOT_HELD:
+            return 0
+        return 1 if height >= 0 else height
 
     def tell_count(self, relation):
         if not self.has_relation(relation):
