@@ -10,13 +10,13 @@ HIGHEST_VALUE = 65535
 
 
 class Rule:
-    """A head, the parts that must hold, and the negated parts, which must not; the plans made for it so far."""
+    """A head, the parts that must hold, and the negated parts, which must not; its shape, once that is asked for."""
 
     def __init__(self, head, parts, negated):
         self.head = head
         self.parts = parts
         self.negated = negated
-        self.plans = {}
+        self.shape = None
 
 
 def is_value(number):

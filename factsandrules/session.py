@@ -2,7 +2,6 @@
 
 from factsandrules.rules import is_safe, is_value, may_join, read_rule
 from factsandrules.settling import components_of, settle_changed
-from factsandrules.tables import Table
 
 NOT_TAKEN = -1
 NOT_SAFE = -2
@@ -21,15 +20,15 @@ MOST_HELD = 32768
 class Session:
     """The relations' arities; for each relation the facts told; the rules by their numbers.
 
-    The tables say what holds, for each relation, once those that draw from the changed relations are settled anew.
-    The components are None where relations or rules came or went since they were made.
+    The heights are those of the facts that hold, for each relation, once what draws from the changed relations is
+    settled anew. The components are None where relations or rules came or went since they were made.
     """
 
     def __init__(self):
         self.arities = []
         self.told = []
         self.rules = {}
-        self.tables = []
+        self.heights = []
         self.changed = {}
         self.components = None
 
@@ -40,7 +39,7 @@ class Session:
             return NO_ROOM
         self.arities.append(arity)
         self.told.append({})
-        self.tables.append(Table({}))
+        self.heights.append({})
         self.components = None
         return len(self.arities) - 1
 
@@ -114,15 +113,15 @@ class Session:
             return
         if self.components is None:
             self.components = components_of(len(self.arities), list(self.rules.values()))
-        settle_changed(self.components, self.changed, self.told, self.tables)
+        settle_changed(self.components, self.changed, self.told, self.heights)
         self.changed = {}
 
     def heights_in(self, relation):
         """The facts of the relation that hold, each with its height; None where too many hold in all."""
         self.settle()
-        if sum([len(table.heights) for table in self.tables]) > MOST_HELD:
+        if sum([len(held) for held in self.heights]) > MOST_HELD:
             return None
-        return self.tables[relation].heights
+        return self.heights[relation]
 
     def tell_holds(self, relation, terms):
         height = self.tell_height(relation, terms)

@@ -1,33 +1,50 @@
 """Settling: which facts hold, and how high they stand, one component of relations behind another.
 
 A component is the relations that lead to one another through rules, or one relation by itself. Each is settled,
-whole, before any that draws from it; a negated part's relation never lies in the head's own component.
+whole, before any that draws from it; a negated part's relation never lies in the head's own component. Within a
+component the facts come by their heights, the lowest first: a rule whose highest part comes at a height has its head
+come at the next one.
 """
 
-from factsandrules.joins import heads_of
-from factsandrules.plans import plan_for
 from factsandrules.rules import steps_of
+from factsandrules.searches import Search
+from factsandrules.shapes import shape_of
 from factsandrules.tables import Table
 
 
 class Component:
-    """Its relations; all relations that settling it draws from; the rules with a head among its relations.
-
-    The outer rules have no part within the component; inner holds a rule and a part's number for each part within it.
-    """
+    """Its relations; all relations that settling it draws from; of these the sources, which parts that aren't negated
+    ask for; the bare rules, which have no such part; and a rule and a part's number for each such part."""
 
     def __init__(self, relations, rules):
         self.relations = relations
         self.reads = dict([(relation, True) for relation in relations])
-        self.outer = []
-        self.inner = []
+        self.sources = {}
+        self.bare = [rule for rule in rules if not rule.parts]
+        self.met = []
         for rule in rules:
-            for part in rule.parts + rule.negated:
-                self.reads[part[0]] = True
-            within = [at for at, part in enumerate(rule.parts) if part[0] in relations]
-            self.inner.extend([(rule, at) for at in within])
-            if not within:
-                self.outer.append(rule)
+            self.reads.update(dict([(part[0], True) for part in rule.parts + rule.negated]))
+            self.sources.update(dict([(part[0], True) for part in rule.parts]))
+            self.met.extend([(rule, at) for at in range(len(rule.parts))])
+
+
+class Layer:
+    """The facts of one source while heights are gone through: those that came ahead of the height that it is at,
+    those that come with it, and both together."""
+
+    def __init__(self):
+        self.older = Table()
+        self.fresh = Table()
+        self.both = Table()
+
+    def take_fresh(self, rows):
+        self.fresh = Table()
+        self.fresh.add_rows(rows)
+        self.both.add_rows(rows)
+
+    def let_age(self):
+        self.older.add_rows(self.fresh.rows)
+        self.fresh = Table()
 
 
 def reached_from(start, steps):
@@ -67,50 +84,62 @@ def components_of(how_many, all_rules):
     return components
 
 
-def put_waiting(waiting, relation, facts):
-    """Puts the facts, pairs of values and height, where they wait for their height's turn."""
+def put_coming(coming, relation, facts):
+    """Puts the facts, pairs of values and height, where they come at their heights."""
     for values, height in facts:
-        waiting.setdefault(height, []).append((relation, values))
+        coming.setdefault(height, {}).setdefault(relation, []).append(values)
 
 
-def settle_facts(facts, height, tables):
-    """Takes the facts that don't stand lower already; gives back a table of the fresh ones for each relation."""
-    fresh = {}
-    for relation, values in facts:
-        if values not in tables[relation].heights:
-            tables[relation].add(values, height)
-            fresh.setdefault(relation, Table({})).add(values, height)
-    return fresh
-
-
-def first_waiting(component, told, tables):
-    """What is told, and what follows by the outer rules, by height."""
-    waiting = {}
+def first_coming(component, told, heights):
+    """What comes at each height, as far as that is known at first: told facts, and those that are settled already."""
     for relation in component.relations:
-        put_waiting(waiting, relation, [(values, 0) for values in told[relation]])
-    for rule in component.outer:
-        put_waiting(waiting, rule.head[0], heads_of(plan_for(rule, None), tables, None))
-    return waiting
+        heights[relation] = dict([(values, 0) for values in told[relation]])
+    coming = {}
+    for relation in component.sources:
+        put_coming(coming, relation, list(heights[relation].items()))
+    return coming
 
 
-def settle_component(component, told, tables):
-    for relation in component.relations:
-        tables[relation] = Table({})
-    waiting = first_waiting(component, told, tables)
-    # The lowest height goes first: no way that is found later can bring a fact below it.
-    while waiting:
-        height = min(waiting)
-        fresh = settle_facts(waiting.pop(height), height, tables)
-        for rule, at in component.inner:
-            relation = rule.parts[at][0]
-            if relation in fresh:
-                put_waiting(waiting, rule.head[0], heads_of(plan_for(rule, at), tables, fresh[relation]))
+def tables_of(rule, at, layers):
+    """A table for each part: the fresh facts for the part of this number, and the older ones alone for those ahead of
+    it, so that no way is gone through twice."""
+    tables = []
+    for number, part in enumerate(rule.parts):
+        layer = layers[part[0]]
+        if number == at:
+            tables.append(layer.fresh)
+        else:
+            tables.append(layer.older if number < at else layer.both)
+    return tables
 
 
-def settle_changed(components, changed, told, tables):
+def settle_component(component, told, heights):
+    coming = first_coming(component, told, heights)
+    layers = dict([(relation, Layer()) for relation in component.sources])
+
+    def add_heads(rule, tables, height):
+        heads = Search(shape_of(rule), tables, heights, height).find_heads()
+        if rule.head[0] in component.sources:
+            put_coming(coming, rule.head[0], [(values, height) for values in heads])
+
+    for rule in component.bare:
+        add_heads(rule, [], 1)
+    while coming:
+        height = min(coming)
+        fresh = coming.pop(height)
+        for relation in fresh:
+            layers[relation].take_fresh(fresh[relation])
+        for rule, at in component.met:
+            if rule.parts[at][0] in fresh:
+                add_heads(rule, tables_of(rule, at, layers), height + 1)
+        for relation in fresh:
+            layers[relation].let_age()
+
+
+def settle_changed(components, changed, told, heights):
     """Settles anew what draws from the changed relations, in whatever many steps."""
     stale = dict(changed)
     for component in components:
         if any([relation in stale for relation in component.reads]):
-            settle_component(component, told, tables)
+            settle_component(component, told, heights)
             stale.update(dict([(relation, True) for relation in component.relations]))

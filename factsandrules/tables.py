@@ -1,31 +1,43 @@
-"""A table: the facts of one relation, each with its height, to be found by their values at some positions."""
+"""A table: rows of values, to be found by their values at some positions."""
 
 
-def file_fact(index, positions, values):
-    key = tuple([values[at] for at in positions])
-    index.setdefault(key, []).append(values)
+def file_row(index, look, row):
+    given, same, wanted = look
+    for one, other in same:
+        if row[one] != row[other]:
+            return
+    key = tuple([row[at] for at in given])
+    index.setdefault(key, {})[tuple([row[at] for at in wanted])] = True
 
 
 class Table:
-    """The height of each fact; an index for each row of positions that was ever asked for."""
+    """The rows, no two alike; an index for each look that was ever asked for.
 
-    def __init__(self, heights):
-        self.heights = heights
+    A look is the positions where the values are given, the pairs of positions where they must be the same, and the
+    positions where they are wanted.
+    """
+
+    def __init__(self):
+        self.rows = []
         self.indexes = {}
 
-    def add(self, values, height):
-        self.heights[values] = height
-        for positions in list(self.indexes):
-            file_fact(self.indexes[positions], positions, values)
+    def add_rows(self, rows):
+        self.rows.extend(rows)
+        for look in list(self.indexes):
+            for row in rows:
+                file_row(self.indexes[look], look, row)
 
-    def matches(self, positions, key):
-        """The facts that have the key's values at the positions."""
-        if positions not in self.indexes:
-            self.make_index(positions)
-        return self.indexes[positions].get(key, [])
+    def matches(self, look, key):
+        """The wanted values of the rows with the key's values where they are given; none stands twice."""
+        # Where all values are wanted, that is the rows as they stand.
+        if not self.rows or len(look[2]) == len(self.rows[0]):
+            return self.rows
+        if look not in self.indexes:
+            self.make_index(look)
+        return self.indexes[look].get(key, {})
 
-    def make_index(self, positions):
+    def make_index(self, look):
         index = {}
-        for values in self.heights:
-            file_fact(index, positions, values)
-        self.indexes[positions] = index
+        for row in self.rows:
+            file_row(index, look, row)
+        self.indexes[look] = index
