@@ -8,6 +8,7 @@ that was found counts as a dead end too, by the values of the head's variables: 
 """
 
 from factsandrules.shapes import cells_of, is_ready
+from factsandrules.ways import Ways
 
 # Where a part has more rows than these, its variables are looked at one by one.
 FEW_ROWS = 8
@@ -16,41 +17,25 @@ FEW_ROWS = 8
 MOST_NOTED = 200000
 
 
-class Search:
-    """The rule's shape; a table for each part; the facts that hold, each with its height, by relation.
+class Search(Ways):
+    """New heads hold from when they are found, at the height that is told ahead.
 
-    New heads hold from when they are found, at the height that is told ahead. Noted are the dead ends: for each group
-    the values; asked are those groups that are to be asked for at each step.
+    Noted are the dead ends: for each group the values. Asked are those groups that are to be asked for at each step.
     """
 
     def __init__(self, shape, tables, heights, height):
-        self.shape = shape
-        self.tables = tables
-        self.heights = heights
+        Ways.__init__(self, shape, tables, heights)
         self.height = height
-        self.cells = list(shape.cells)
         self.found = []
         self.noted = {}
         self.asked = {}
         self.how_many_noted = 0
 
-    def fill(self, cells):
-        return tuple([self.cells[cell] for cell in cells])
-
-    def is_held(self, pattern):
-        return self.fill(pattern.cells) in self.heights[pattern.relation]
-
-    def rows_of(self, at, access):
-        return self.tables[at].matches(access.look, self.fill(access.key))
-
     def find_heads(self):
         """The new heads, each a tuple of values."""
-        shape = self.shape
-        if any([self.is_held(pattern) for pattern in [shape.head] + shape.negated if pattern.group == 0]):
-            return []
-        rest = [(at, self.rows_of(at, shape.access_of(at, 0))) for at in range(len(shape.parts))]
-        if all([rows for at, rows in rest]):
-            self.meet_parts(0, [pair for pair in rest if shape.parts[pair[0]].group])
+        rest = self.first_rest()
+        if rest is not None:
+            self.meet_parts(0, rest)
         return self.found
 
     def meet_parts(self, bound, rest):
@@ -65,8 +50,7 @@ class Search:
         # Rows with other values are left out by the part's variables that are bound.
         reason = group & bound
         for row in rows:
-            for cell, value in zip(access.targets, row):
-                self.cells[cell] = value
+            self.bind(access, row)
             dead_by = self.go_on(bound, access.added, others, reason)
             if dead_by & access.added == 0:
                 return dead_by
@@ -86,9 +70,9 @@ class Search:
         at, rows = min(rest, key=lambda pair: len(pair[1]))
         best = (at, self.shape.access_of(at, bound), rows)
         if len(rows) > FEW_ROWS:
-            for number, wider_rows in rest:
-                for access in self.shape.narrow_accesses_of(number, bound):
-                    step = (number, access, self.rows_of(number, access))
+            for pair in rest:
+                for access in self.shape.narrow_accesses_of(pair[0], bound):
+                    step = (pair[0], access, self.rows_of(pair[0], access))
                     if self.is_better(step, best):
                         best = step
         return best
@@ -104,15 +88,9 @@ class Search:
         if dead_by:
             return dead_by
         now = bound | added
-        rest = []
-        for pair in others:
-            group = self.shape.parts[pair[0]].group
-            if group & added:
-                pair = (pair[0], self.rows_of(pair[0], self.shape.access_of(pair[0], now)))
-                if not pair[1]:
-                    return group & now
-            if group & ~now:
-                rest.append(pair)
+        rest = self.further_rest(bound, added, others)
+        if rest and not rest[0][1]:
+            return self.shape.parts[rest[0][0]].group & now
         return self.meet_parts(now, rest)
 
     def known_dead_end(self, bound, added, reason):

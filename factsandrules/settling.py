@@ -10,41 +10,42 @@ from factsandrules.rules import steps_of
 from factsandrules.searches import Search
 from factsandrules.shapes import shape_of
 from factsandrules.tables import Table
+from factsandrules.walks import Walk
 
 
 class Component:
-    """Its relations; all relations that settling it draws from; of these the sources, which parts that aren't negated
-    ask for; the bare rules, which have no such part; and a rule and a part's number for each such part."""
+    """Its relations; all relations that settling it draws from; the rules with a head among its relations: the inner
+    ones have a part among them too, the outer ones have none."""
 
     def __init__(self, relations, rules):
         self.relations = relations
         self.reads = dict([(relation, True) for relation in relations])
-        self.sources = {}
-        self.bare = [rule for rule in rules if not rule.parts]
-        self.met = []
+        self.outer = []
+        self.inner = []
         for rule in rules:
             self.reads.update(dict([(part[0], True) for part in rule.parts + rule.negated]))
-            self.sources.update(dict([(part[0], True) for part in rule.parts]))
-            self.met.extend([(rule, at) for at in range(len(rule.parts))])
+            if any([part[0] in relations for part in rule.parts]):
+                self.inner.append(rule)
+            else:
+                self.outer.append(rule)
 
 
 class Layer:
-    """The facts of one source while heights are gone through: those that came ahead of the height that it is at,
+    """The facts of one relation while heights are gone through: those that came ahead of the height that it is at,
     those that come with it, and both together."""
 
     def __init__(self):
-        self.older = Table()
-        self.fresh = Table()
-        self.both = Table()
+        self.older = Table([])
+        self.fresh = Table([])
+        self.both = Table([])
 
     def take_fresh(self, rows):
-        self.fresh = Table()
-        self.fresh.add_rows(rows)
+        self.fresh = Table(rows)
         self.both.add_rows(rows)
 
     def let_age(self):
         self.older.add_rows(self.fresh.rows)
-        self.fresh = Table()
+        self.fresh = Table([])
 
 
 def reached_from(start, steps):
@@ -87,17 +88,63 @@ def components_of(how_many, all_rules):
 def put_coming(coming, relation, facts):
     """Puts the facts, pairs of values and height, where they come at their heights."""
     for values, height in facts:
-        coming.setdefault(height, {}).setdefault(relation, []).append(values)
+        coming.setdefault(height, {}).setdefault(relation, {})[values] = True
 
 
-def first_coming(component, told, heights):
-    """What comes at each height, as far as that is known at first: told facts, and those that are settled already."""
-    for relation in component.relations:
-        heights[relation] = dict([(values, 0) for values in told[relation]])
+def told_coming(component, told, heights):
+    """Empties the component's relations; what comes at each height then is at first what is told."""
     coming = {}
-    for relation in component.sources:
-        put_coming(coming, relation, list(heights[relation].items()))
+    for relation in component.relations:
+        heights[relation] = {}
+        put_coming(coming, relation, [(values, 0) for values in told[relation]])
     return coming
+
+
+def has_one_height(rule, heights):
+    """Whether all that the rule's parts may be met by has the same height."""
+    found = {}
+    for relation in dict([(part[0], True) for part in rule.parts]):
+        for height in heights[relation].values():
+            found[height] = True
+    return len(found) == 1
+
+
+def walked_heads(rule, heights, tables):
+    """The heads of an outer rule, with their heights; None where it is better searched, height by height.
+
+    The tables are those of settled relations that were asked for so far.
+    """
+    # A search needs fewer steps than a walk, but it has to be begun anew for each height.
+    if has_one_height(rule, heights):
+        return None
+    for relation, terms in rule.parts:
+        if relation not in tables:
+            tables[relation] = Table(list(heights[relation]))
+    return Walk(shape_of(rule), [tables[part[0]] for part in rule.parts], heights).find_heights()
+
+
+def make_layers(rules, heights, coming):
+    """A layer for each relation that the rules' parts ask for; the facts that it has already are to come."""
+    layers = {}
+    for rule in rules:
+        for relation, terms in rule.parts:
+            if relation not in layers:
+                layers[relation] = Layer()
+                put_coming(coming, relation, list(heights[relation].items()))
+    return layers
+
+
+def take_coming(facts, height, heights, layers):
+    """Has the facts hold at this height, but for those that hold at a lower one; gives back the layers' relations that
+    have fresh ones by that."""
+    fresh = []
+    for relation in facts:
+        held = heights[relation]
+        rows = [values for values in facts[relation] if held.setdefault(values, height) == height]
+        if rows and relation in layers:
+            layers[relation].take_fresh(rows)
+            fresh.append(relation)
+    return fresh
 
 
 def tables_of(rule, at, layers):
@@ -113,25 +160,31 @@ def tables_of(rule, at, layers):
     return tables
 
 
-def settle_component(component, told, heights):
-    coming = first_coming(component, told, heights)
-    layers = dict([(relation, Layer()) for relation in component.sources])
+def search_heads(rule, fresh, layers, heights, height):
+    """The new heads where a part is met by a fresh fact, at this height."""
+    heads = []
+    for at, part in enumerate(rule.parts):
+        if part[0] in fresh:
+            heads.extend(Search(shape_of(rule), tables_of(rule, at, layers), heights, height).find_heads())
+    return [(values, height) for values in heads]
 
-    def add_heads(rule, tables, height):
-        heads = Search(shape_of(rule), tables, heights, height).find_heads()
-        if rule.head[0] in component.sources:
-            put_coming(coming, rule.head[0], [(values, height) for values in heads])
 
-    for rule in component.bare:
-        add_heads(rule, [], 1)
+def settle_component(component, told, heights, tables):
+    coming = told_coming(component, told, heights)
+    searched = list(component.inner)
+    for rule in component.outer:
+        heads = walked_heads(rule, heights, tables)
+        if heads is None:
+            searched.append(rule)
+        else:
+            put_coming(coming, rule.head[0], heads)
+    layers = make_layers(searched, heights, coming)
+    # The lowest height goes first: no way that is found later can bring a fact below it.
     while coming:
         height = min(coming)
-        fresh = coming.pop(height)
-        for relation in fresh:
-            layers[relation].take_fresh(fresh[relation])
-        for rule, at in component.met:
-            if rule.parts[at][0] in fresh:
-                add_heads(rule, tables_of(rule, at, layers), height + 1)
+        fresh = take_coming(coming.pop(height), height, heights, layers)
+        for rule in searched:
+            put_coming(coming, rule.head[0], search_heads(rule, fresh, layers, heights, height + 1))
         for relation in fresh:
             layers[relation].let_age()
 
@@ -139,7 +192,8 @@ def settle_component(component, told, heights):
 def settle_changed(components, changed, told, heights):
     """Settles anew what draws from the changed relations, in whatever many steps."""
     stale = dict(changed)
+    tables = {}
     for component in components:
         if any([relation in stale for relation in component.reads]):
-            settle_component(component, told, heights)
+            settle_component(component, told, heights, tables)
             stale.update(dict([(relation, True) for relation in component.relations]))

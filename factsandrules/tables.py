@@ -17,8 +17,8 @@ class Table:
     positions where they are wanted.
     """
 
-    def __init__(self):
-        self.rows = []
+    def __init__(self, rows):
+        self.rows = list(rows)
         self.indexes = {}
 
     def add_rows(self, rows):

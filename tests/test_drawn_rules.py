@@ -5,7 +5,7 @@ import random
 import unittest
 from unittest import mock
 
-from factsandrules import searches
+from factsandrules import searches, walks
 from helper import ask, count, fact, following, height, new, relation, rule
 
 MOST_FACTS = 30
@@ -150,18 +150,24 @@ class DrawnRulesTest(unittest.TestCase):
             self.assertEqual(found, due, (seed, words, call))
 
     def test_as_it_is(self):
-        for seed in range(1200):
+        for seed in range(1000):
             self.compare(seed)
 
+    def test_where_walks_are_given_up(self):
+        for most in (0, 20):
+            with mock.patch.object(walks, "MOST_STEPS", most):
+                for seed in range(2000, 2500):
+                    self.compare(seed)
+
     def test_where_variables_are_bound_one_by_one(self):
-        with mock.patch.object(searches, "FEW_ROWS", 0):
-            for seed in range(2000, 3000):
+        with mock.patch.object(walks, "MOST_STEPS", 0), mock.patch.object(searches, "FEW_ROWS", 0):
+            for seed in range(4000, 5000):
                 self.compare(seed)
 
     def test_where_few_dead_ends_are_kept_in_mind(self):
         for most in (1, 4):
-            with mock.patch.object(searches, "MOST_NOTED", most):
-                for seed in range(4000, 4300):
+            with mock.patch.object(walks, "MOST_STEPS", 0), mock.patch.object(searches, "MOST_NOTED", most):
+                for seed in range(6000, 6300):
                     self.compare(seed)
 
 
