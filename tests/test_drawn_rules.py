@@ -18,9 +18,9 @@ SIZES = ((2, 8), (3, 7), (4, 5), (6, 4), (12, 3))
 class Drawn:
     """Relations with facts at several heights, and a rule that draws from them.
 
-    Relation 0 is a ladder: it holds of 0 at height 0, of 1 at height 1, and so on. The relations that the rule draws from
-    come in twos: what is told of the first, with a rung of the ladder behind it, holds of the second one height above it.
-    The last relation is the rule's head.
+    Relation 0 is a ladder: it holds of 0 at height 0, of 1 at height 1, and so on. The relations that the rule draws
+    from come in twos: what is told of the first, with a rung of the ladder behind it, holds of the second one height
+    above it. The last relation is the rule's head.
     """
 
     def __init__(self, seed):
